@@ -1,0 +1,1 @@
+"""Rounds in the valley: see valleyrounds.valley.answers."""
