@@ -2,7 +2,7 @@
 
 import unittest
 
-from tests.helper import FULL, MOST, SMALL, START, Refusals, ask, ask_last, calls_at, whole_view
+from tests.helper import FULL, MOST, SMALL, START, Refusals, ask, ask_last, calls_at, still_view, whole_view
 
 FAR_NUMBERS = (1001, 65536, 2 ** 31 - 1, 2 ** 31, 2 ** 32 - 2, MOST)
 
@@ -135,7 +135,7 @@ class Clear(Refusals):
 
     def test_none_are_any_more(self):
         before = SMALL + calls_at(0, 2, 6) + [("clear",)]
-        view = whole_view(7) + [("call", v, 0) for v in range(7)]
+        view = still_view(7) + [("call", v, 0) for v in range(7)]
         self.assertEqual(ask_last(before, *view), ask_last(SMALL, *view))
 
     def test_none_are(self):

@@ -1,4 +1,4 @@
-"""Point 4: vr_tour, vr_way, vr_when."""
+"""Point 4: vr_tour, vr_way, vr_when, vr_passes."""
 
 import unittest
 
@@ -145,6 +145,46 @@ class When(Refusals):
         before = SMALL + calls_at(5, 6)
         for v in ABSENT:
             self.check_refused(before, [("when", v, 0), ("when", 0, v), ("when", v, v), ("when", 3, v)], -2)
+
+
+class Passes(Refusals):
+    def test_ordinary(self):
+        # The round: 0 1 3 1 4 6 4 1 0 2 5 2 0; the way: 0 2 5 2 0 1 3 1 4 6.
+        given = ask_last(SMALL + calls_at(5, 6, 3), *[("passes", 0, w) for w in range(7)])
+        self.assertEqual(given, [[3, 2], [3, 2], [2, 2], [1, 1], [2, 1], [1, 1], [1, 1]])
+
+    def test_from_below(self):
+        # The round: 6 4 1 0 2 5 2 0 1 3 1 4 6; the way: 6 4 1 3 1 0 2 5.
+        given = ask_last(SMALL + calls_at(3, 5), *[("passes", 6, w) for w in range(7)])
+        self.assertEqual(given, [[2, 1], [3, 2], [2, 1], [1, 1], [2, 1], [1, 1], [2, 1]])
+
+    def test_never(self):
+        given = ask_last(SMALL + calls_at(4), *[("passes", 0, w) for w in (2, 3, 5, 6)])
+        self.assertEqual(given, [[0, 0]] * 4)
+
+    def test_where_one_begins(self):
+        given = ask_last(SMALL + calls_at(4), ("passes", 0, 0), ("passes", 1, 1), ("passes", 4, 4))
+        self.assertEqual(given, [[2, 1], [2, 1], [1, 1]])
+
+    def test_no_calls(self):
+        for a in range(7):
+            given = ask_last(SMALL, *[("passes", a, w) for w in range(7)])
+            self.assertEqual(given, [[int(a == w)] * 2 for w in range(7)])
+
+    def test_a_call_where_one_begins_and_nowhere_else(self):
+        for a in range(7):
+            given = ask_last(SMALL + calls_at(a), *[("passes", a, w) for w in range(7)])
+            self.assertEqual(given, [[int(a == w)] * 2 for w in range(7)])
+
+    def test_most_times(self):
+        before = FULL + calls_at(*range(14))
+        given = ask_last(before, ("passes", 0, 0), ("passes", 0, 13), ("passes", 13, 0), ("passes", 13, 13))
+        self.assertEqual(given, [[14, 13], [1, 1], [13, 12], [2, 1]])
+
+    def test_none(self):
+        before = SMALL + calls_at(5, 6)
+        for v in ABSENT:
+            self.check_refused(before, [("passes", v, 0), ("passes", 0, v), ("passes", v, v), ("passes", 3, v)], -2)
 
 
 if __name__ == "__main__":

@@ -1,4 +1,4 @@
-"""Point 3: vr_far, vr_between, vr_roads, vr_round, vr_once."""
+"""Point 3: vr_far, vr_between, vr_roads, vr_round, vr_once, vr_last."""
 
 import unittest
 
@@ -145,6 +145,46 @@ class Once(Refusals):
 
     def test_none(self):
         self.check_refused(BEFORE, [("once", v) for v in ABSENT], -2)
+
+
+class Last(Refusals):
+    def test_ordinary(self):
+        given = ask_last(SMALL + calls_at(3, 6), *[("last", a) for a in range(7)])
+        self.assertEqual(given, [[6, 13], [6, 8], [6, 16], [6, 10], [3, 9], [6, 20], [3, 10]])
+
+    def test_no_calls(self):
+        self.assertEqual(ask_last(SMALL, *[("last", a) for a in range(7)]), [[a, 0] for a in range(7)])
+
+    def test_a_call_where_one_begins_and_nowhere_else(self):
+        for a in range(7):
+            self.assertEqual(ask_last(SMALL + calls_at(a), ("last", a)), [[a, 0]])
+
+    def test_a_call_where_one_begins_and_elsewhere(self):
+        self.assertEqual(ask_last(SMALL + calls_at(0, 2), ("last", 0), ("last", 2)), [[2, 3], [0, 3]])
+
+    def test_of_like_ones_the_least(self):
+        before = [START, ("village", 0, 4), ("village", 0, 2), ("village", 2, 2), ("village", 0, 4)]
+        self.assertEqual(ask_last(before + calls_at(4, 3, 1), ("last", 0), ("last", 1)), [[1, 4], [3, 8]])
+        self.assertEqual(ask_last(before + calls_at(4, 3), ("last", 0), ("last", 1)), [[3, 4], [3, 8]])
+        self.assertEqual(ask_last(before + calls_at(4), ("last", 0)), [[4, 4]])
+        self.assertEqual(ask_last(FULL + calls_at(*range(14)), ("last", 0), ("last", 1)), [[1, 1], [2, 2]])
+
+    def test_the_least_may_be_village_0(self):
+        before = [START, ("village", 0, 3), ("village", 1, 3)] + calls_at(2, 0)
+        self.assertEqual(ask_last(before, ("last", 1), ("last", 2), ("last", 0)), [[0, 3], [0, 6], [2, 6]])
+
+    def test_the_farthest_is_by_length_not_by_villages(self):
+        before = [START, ("village", 0, 1), ("village", 1, 1), ("village", 0, 3)] + calls_at(2, 3)
+        self.assertEqual(ask_last(before, ("last", 0)), [[3, 3]])
+
+    def test_a_farther_village_without_a_call_is_not_it(self):
+        self.assertEqual(ask_last(SMALL + calls_at(3), ("last", 0)), [[3, 7]])
+
+    def test_the_longest_there_can_be(self):
+        self.assertEqual(ask_last(CHAIN + calls_at(0, 13), ("last", 0), ("last", 13)), [[13, 13000], [0, 13000]])
+
+    def test_none(self):
+        self.check_refused(BEFORE, [("last", v) for v in ABSENT], -2)
 
 
 if __name__ == "__main__":

@@ -5,10 +5,12 @@ back, how many numbers it has stands ahead of each of them.
 """
 
 from valleyrounds.land import Valley
-from valleyrounds.walks import length_along, length_of, roads_needed, round_from, way_between, way_from
+from valleyrounds.walks import called_villages, far_between, far_by_stops, farthest_from, length_along, length_of
+from valleyrounds.walks import roads_needed, round_from, round_length, way_between, way_from, way_length
 
 MOST_VILLAGES = 14
 LONGEST_ROAD = 1000
+MOST_IN_ORDER = 6
 
 THERES_NONE = -2
 IT_IS_SO = -17
@@ -19,6 +21,10 @@ NOT_HERE = -33
 
 def road_fits(n):
     return 1 <= n <= LONGEST_ROAD
+
+
+def as_bits(villages):
+    return sum([1 << v for v in villages])
 
 
 def vr_start(valley):
@@ -65,7 +71,7 @@ def vr_clear(valley):
 def vr_far(valley, v, w):
     if not valley.has(v) or not valley.has(w):
         return [THERES_NONE]
-    return [length_along(valley, way_between(valley, v, w))]
+    return [far_between(valley, v, w)]
 
 
 def vr_between(valley, v, w):
@@ -80,14 +86,13 @@ def vr_roads(valley, a):
     if not valley.has(a):
         return [THERES_NONE]
     needed = roads_needed(valley, a)
-    bits = sum([1 << v for v in needed])
-    return [len(needed), bits, length_of(valley, needed)]
+    return [len(needed), as_bits(needed), length_of(valley, needed)]
 
 
 def vr_round(valley, a):
     if not valley.has(a):
         return [THERES_NONE]
-    return [length_along(valley, round_from(valley, a))]
+    return [round_length(valley, a)]
 
 
 def vr_once(valley, a):
@@ -124,8 +129,102 @@ def vr_when(valley, a, v):
     return [length_along(valley, passed[:passed.index(v) + 1])]
 
 
-WITH_NO_NUMBER = {0: vr_start, 4: vr_clear}
-WITH_ONE_NUMBER = {7: vr_roads, 8: vr_round, 9: vr_once}
+def vr_last(valley, a):
+    if not valley.has(a):
+        return [THERES_NONE]
+    farthest = farthest_from(valley, a)
+    return [farthest, far_between(valley, a, farthest)]
+
+
+def vr_more(valley, a, v):
+    if not valley.has(a) or not valley.has(v):
+        return [THERES_NONE]
+    other = valley.with_call(v, 1)
+    return [round_length(other, a) - round_length(valley, a), way_length(other, a)]
+
+
+def vr_less(valley, a, v):
+    if not valley.has(a) or not valley.has(v):
+        return [THERES_NONE]
+    if valley.called[v] == 0:
+        return [IT_IS_SO]
+    other = valley.with_call(v, 0)
+    return [round_length(valley, a) - round_length(other, a), way_length(other, a)]
+
+
+def vr_begin(valley):
+    lengths = [way_length(valley, a) for a in range(valley.size())]
+    shortest = min(lengths)
+    return [lengths.index(shortest), shortest]
+
+
+def vr_passes(valley, a, w):
+    if not valley.has(a) or not valley.has(w):
+        return [THERES_NONE]
+    return [round_from(valley, a).count(w), way_from(valley, a).count(w)]
+
+
+def vr_order(valley, a, villages):
+    if not valley.has(a):
+        return [THERES_NONE]
+    called = called_villages(valley)
+    if len(called) > MOST_IN_ORDER:
+        return [TOO_MANY]
+    order = villages[:len(called)]
+    if sorted(order) != called:
+        return [NOT_FIT]
+    far = far_by_stops(valley, [a] + order + [a])
+    return [far, far - round_length(valley, a)]
+
+
+def vr_look(valley, v):
+    if not valley.has(v):
+        return [THERES_NONE]
+    return [valley.called[v], valley.ups[v], valley.lengths[v]]
+
+
+def vr_calls(valley):
+    called = called_villages(valley)
+    return [len(called), as_bits(called)]
+
+
+def vr_sums(valley):
+    return [sum(valley.lengths), valley.size()]
+
+
+def vr_back(valley):
+    if valley.earlier == []:
+        return [THERES_NONE]
+    return [valley.take_back()]
+
+
+def vr_again(valley):
+    if valley.later == []:
+        return [THERES_NONE]
+    return [valley.do_again()]
+
+
+def vr_state(valley):
+    return [valley.size(), len(valley.earlier), len(valley.later)]
+
+
+WITH_NO_NUMBER = {
+    0: vr_start,
+    4: vr_clear,
+    16: vr_begin,
+    20: vr_calls,
+    21: vr_sums,
+    22: vr_back,
+    23: vr_again,
+    24: vr_state,
+}
+WITH_ONE_NUMBER = {
+    7: vr_roads,
+    8: vr_round,
+    9: vr_once,
+    13: vr_last,
+    19: vr_look,
+}
 WITH_TWO_NUMBERS = {
     1: vr_village,
     2: vr_road,
@@ -135,7 +234,11 @@ WITH_TWO_NUMBERS = {
     10: vr_tour,
     11: vr_way,
     12: vr_when,
+    14: vr_more,
+    15: vr_less,
+    17: vr_passes,
 }
+WITH_A_NUMBER_AND_A_ROW = {18: vr_order}
 
 
 def answers(calls):
@@ -150,9 +253,13 @@ def answers(calls):
         elif number in WITH_ONE_NUMBER:
             answer = WITH_ONE_NUMBER[number](valley, calls[at + 1])
             at = at + 2
-        else:
+        elif number in WITH_TWO_NUMBERS:
             answer = WITH_TWO_NUMBERS[number](valley, calls[at + 1], calls[at + 2])
             at = at + 3
+        else:
+            behind = at + 3 + calls[at + 2]
+            answer = WITH_A_NUMBER_AND_A_ROW[number](valley, calls[at + 1], calls[at + 3:behind])
+            at = behind
         given.append(len(answer))
         given.extend(answer)
     return given

@@ -31,6 +31,14 @@ def length_along(valley, passed):
     return length_of(valley, roads_along(passed))
 
 
+def far_between(valley, v, w):
+    return length_along(valley, way_between(valley, v, w))
+
+
+def far_by_stops(valley, stops):
+    return sum([far_between(valley, stops[k - 1], stops[k]) for k in range(1, len(stops))])
+
+
 def called_villages(valley):
     return [v for v in range(valley.size()) if valley.called[v] == 1]
 
@@ -46,7 +54,7 @@ def farthest_from(valley, a):
     best = a
     best_far = 0
     for v in called_villages(valley):
-        far = length_along(valley, way_between(valley, a, v))
+        far = far_between(valley, a, v)
         # Only what is farther takes the place: of like ones the least stays, and a stays if none is away from it.
         if far > best_far:
             best = v
@@ -75,6 +83,10 @@ def round_from(valley, a):
     return trips_from(valley, roads_needed(valley, a), a, [])
 
 
+def round_length(valley, a):
+    return length_along(valley, round_from(valley, a))
+
+
 def way_from(valley, a):
     needed = roads_needed(valley, a)
     straight = way_between(valley, a, farthest_from(valley, a))
@@ -83,3 +95,7 @@ def way_from(valley, a):
     for v in straight:
         passed.extend(trips_from(valley, needed, v, straight))
     return passed
+
+
+def way_length(valley, a):
+    return length_along(valley, way_from(valley, a))
